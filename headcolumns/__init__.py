@@ -1,0 +1,1 @@
+"""Sets the paragraphs of an index in columns."""
